@@ -1,0 +1,1 @@
+"""Tokens that can be made narrower by whoever holds them."""
