@@ -1,7 +1,8 @@
 """The calls that anybody can do without a key. Each gives back its answer as a list of numbers."""
 
 from narrowtokens.token_form import (
-    HIGHEST_KIND, LONGEST_ARGUMENT, MOST_CAVEATS, Caveat, Token, read_token, seal_behind, token_row)
+    HIGHEST_KIND, LONGEST_ARGUMENT, MOST_CAVEATS, Caveat, Token, halves, number_of_bytes, read_token, seal_behind,
+    sum_of_bytes, token_row)
 
 
 def check(row):
@@ -26,3 +27,19 @@ def narrow(kind, row, argument):
 def with_caveat(token, caveat):
     # The old seal is taken as it is: without a key nobody can tell whether it is right.
     return Token(token.root, token.serial, token.caveats + [caveat], seal_behind(token.seal, caveat))
+
+
+def tell_sum(row):
+    return [0] + halves(sum_of_bytes(row))
+
+
+def parts(row):
+    token = read_token(row)
+    if token is None:
+        return [-1]
+    heads = []
+    arguments = []
+    for caveat in token.caveats:
+        heads.extend([caveat.kind, len(caveat.argument)])
+        arguments.extend(caveat.argument)
+    return [len(token.caveats), token.root] + halves(number_of_bytes(token.serial)) + heads + arguments

@@ -3,11 +3,14 @@
 Each call gives back its answer as a list of numbers.
 """
 
-from narrowtokens.token_form import Token, eight_bytes, first_seal, token_row
+from narrowtokens.caveat_rules import Request, first_that_fails, is_counted
+from narrowtokens.token_form import (
+    Token, eight_bytes, first_seal, number_of_bytes, number_of_halves, read_token, right_seal, token_row)
 
 HIGHEST_ROOT = 7
 KEY_LENGTH = 8
-TWO_TO_32 = 4294967296
+MOST_REVOCATIONS = 16
+MOST_COUNTS = 16
 
 
 class Service:
@@ -45,10 +48,59 @@ class Service:
         # A root above the highest never has a key, so this refuses it too.
         if root not in self.root_keys:
             return [-1]
-        serial = eight_bytes(high * TWO_TO_32 + low)
+        serial = eight_bytes(number_of_halves(high, low))
         seal = first_seal(self.root_keys[root], root, serial)
         row = token_row(Token(root, serial, [], seal))
         return [len(row)] + row
+
+    def allow(self, now, op, row, path):
+        token = read_token(row)
+        if token is None:
+            return [1]
+        if token.root not in self.root_keys:
+            return [2]
+        if not self.seal_is_right(token):
+            return [3]
+        pair = (token.root, number_of_bytes(token.serial))
+        if pair in self.revocations:
+            return [4]
+        failing = first_that_fails(token.caveats, Request(now, op, path, self.counts.get(pair, 0)))
+        if failing is not None:
+            return [5, failing]
+        if is_counted(token.caveats):
+            return self.count_use(pair)
+        return [0]
+
+    def seal_is_right(self, token):
+        return token.seal == right_seal(token, self.root_keys[token.root])
+
+    def count_use(self, pair):
+        if pair not in self.counts and len(self.counts) == MOST_COUNTS:
+            return [6]
+        self.counts[pair] = self.counts.get(pair, 0) + 1
+        return [0]
+
+    def revoke(self, root, high, low):
+        if root not in self.root_keys:
+            return [-1]
+        pair = (root, number_of_halves(high, low))
+        if pair not in self.revocations and len(self.revocations) == MOST_REVOCATIONS:
+            return [-2]
+        self.revocations[pair] = True
+        return [0]
+
+    def uses(self, root, high, low):
+        if root not in self.root_keys:
+            return [-1]
+        return [self.counts.get((root, number_of_halves(high, low)), 0)]
+
+    def right(self, row):
+        token = read_token(row)
+        if token is None:
+            return [-1]
+        if token.root not in self.root_keys:
+            return [-2]
+        return [1 if self.seal_is_right(token) else 0]
 
 
 def without_root(entries, root):

@@ -2,6 +2,7 @@
 
 FIRST_SUM = 14695981039346656037
 SUM_FACTOR = 1099511628211
+TWO_TO_32 = 4294967296
 TWO_TO_64 = 18446744073709551616
 
 # Places and lengths in a token: root, serial, how many caveats, caveats, seal.
@@ -47,12 +48,34 @@ def eight_bytes(number):
     return [(number >> (8 * place)) & 255 for place in range(8)]
 
 
+def number_of_bytes(row):
+    number = 0
+    for byte in reversed(row):
+        number = number * 256 + byte
+    return number
+
+
+def number_of_halves(high, low):
+    return high * TWO_TO_32 + low
+
+
+def halves(number):
+    return [number // TWO_TO_32, number % TWO_TO_32]
+
+
 def first_seal(key, root, serial):
     return eight_bytes(sum_of_bytes([FIRST_SEAL_MARK] + key + [root] + serial))
 
 
 def seal_behind(seal, caveat):
     return eight_bytes(sum_of_bytes([CAVEAT_SEAL_MARK] + seal + caveat_row(caveat)))
+
+
+def right_seal(token, key):
+    seal = first_seal(key, token.root, token.serial)
+    for caveat in token.caveats:
+        seal = seal_behind(seal, caveat)
+    return seal
 
 
 def caveat_row(caveat):

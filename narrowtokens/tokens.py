@@ -1,6 +1,6 @@
 """The interface: a list of calls on one new service, answered in one list."""
 
-from narrowtokens.keyless import check, narrow
+from narrowtokens.keyless import check, narrow, parts, tell_sum
 from narrowtokens.service import Service
 
 INIT = 0
@@ -9,10 +9,15 @@ UNROOT = 2
 ISSUE = 3
 CHECK = 4
 NARROW = 5
+ALLOW = 6
+REVOKE = 7
+USES = 8
+RIGHT = 9
+SUM = 10
 
 # By a call's number: how many whole numbers it has, and how many rows behind them.
-HOW_MANY_NUMBERS = (0, 1, 1, 3, 0, 1)
-HOW_MANY_ROWS = (0, 1, 0, 0, 1, 2)
+HOW_MANY_NUMBERS = (0, 1, 1, 3, 0, 1, 2, 3, 3, 0, 0, 0)
+HOW_MANY_ROWS = (0, 1, 0, 0, 1, 2, 2, 0, 0, 1, 1, 1)
 
 
 class UnknownCall(ValueError):
@@ -71,4 +76,16 @@ def answer_call(service, call, numbers, rows):
         return service.issue(numbers[0], numbers[1], numbers[2])
     if call == CHECK:
         return check(rows[0])
-    return narrow(numbers[0], rows[0], rows[1])
+    if call == NARROW:
+        return narrow(numbers[0], rows[0], rows[1])
+    if call == ALLOW:
+        return service.allow(numbers[0], numbers[1], rows[0], rows[1])
+    if call == REVOKE:
+        return service.revoke(numbers[0], numbers[1], numbers[2])
+    if call == USES:
+        return service.uses(numbers[0], numbers[1], numbers[2])
+    if call == RIGHT:
+        return service.right(rows[0])
+    if call == SUM:
+        return tell_sum(rows[0])
+    return parts(rows[0])

@@ -8,6 +8,12 @@ KEY = [1, 2, 3, 4, 5, 6, 7, 8]
 OTHER_KEY = [255, 0, 254, 1, 253, 2, 252, 3]
 TOP = 4294967295
 
+BEFORE = 1
+FROM = 2
+OPS = 3
+PATH = 4
+USES = 5
+
 
 def worked_sum(row):
     total = 0xCBF29CE484222325
@@ -33,6 +39,14 @@ def worked_token(root, high, low, caveats=(), key=KEY):
         seal = worked_h(b"\1" + seal + caveat)
         written += caveat
     return list(bytes([root]) + serial + bytes([len(caveats)]) + written + seal)
+
+
+def four(number):
+    return list(struct.pack("<I", number))
+
+
+def eight(number):
+    return list(struct.pack("<Q", number))
 
 
 def unsealed_token(root=0, caveats=(), seal=(9, 8, 7, 6, 5, 4, 3, 2)):
@@ -65,6 +79,35 @@ def check(token):
 
 def narrow(kind, token, argument):
     return [5, kind, len(token)] + list(token) + [len(argument)] + list(argument)
+
+
+def allow(now, op, token, path):
+    return [6, now, op, len(token)] + list(token) + [len(path)] + list(path)
+
+
+def revoke(number, high, low):
+    return [7, number, high, low]
+
+
+def uses(number, high, low):
+    return [8, number, high, low]
+
+
+def right(token):
+    return [9, len(token)] + list(token)
+
+
+def sum_call(row):
+    return [10, len(row)] + list(row)
+
+
+def parts(token):
+    return [11, len(token)] + list(token)
+
+
+def used_once(number, high, low, key=KEY):
+    """An allow that counts, so that the root and serial have a count of 1 where they had none."""
+    return allow(0, 0, worked_token(number, high, low, [(USES, four(TOP))], key), [])
 
 
 def told(*calls):

@@ -133,6 +133,51 @@ class Language(unittest.TestCase):
                 top += [node.name] if isinstance(node, (ast.FunctionDef, ast.ClassDef)) else []
             self.assertEqual(len(top), len(set(top)), path.name)
 
+    def test_parameters_and_locals_are_not_called_like_classes_or_imports(self):
+        for path in files():
+            tree = ast.parse(path.read_text("utf-8"))
+            taken = {node.name for node in tree.body if isinstance(node, ast.ClassDef)}
+            taken |= {alias.name for node in tree.body if isinstance(node, ast.ImportFrom) for alias in node.names}
+            for function in ast.walk(tree):
+                if isinstance(function, ast.FunctionDef):
+                    inner = {name for part in function.body + [function.args] for name in bound_names(part)}
+                    self.assertEqual(inner & taken, set(), (path.name, function.name))
+
+    def test_no_two_files_draw_from_one_another(self):
+        drawn = {path.stem: set() for path in files()}
+        for name, node in nodes(ast.ImportFrom):
+            drawn[name.removesuffix(".py")].add(node.module.split(".")[-1])
+        while drawn:
+            free = [name for name in drawn if not drawn[name] & set(drawn)]
+            self.assertNotEqual(free, [], drawn)
+            drawn = {name: drawn[name] for name in drawn if name not in free}
+
+    def test_is_stands_beside_none_true_and_false_alone(self):
+        for name, node in nodes(ast.Compare):
+            for sign, beside in zip(node.ops, node.comparators):
+                if isinstance(sign, (ast.Is, ast.IsNot)):
+                    self.assertIsInstance(beside, ast.Constant, name)
+                    self.assertIn(beside.value, (None, True, False), name)
+
+    def test_what_stands_at_a_files_top_cannot_be_changed(self):
+        for path in files():
+            for node in ast.parse(path.read_text("utf-8")).body:
+                if isinstance(node, ast.Assign):
+                    value = ast.literal_eval(node.value)
+                    self.assertIsInstance(hash(value), int, path.name)
+
+    def test_error_classes_stand_under_listed_ones(self):
+        for name, node in nodes(ast.ClassDef):
+            self.assertLessEqual(len(node.bases), 1, name)
+            for base in node.bases:
+                self.assertIn(base.id, OWN_NAMES - {"StopIteration", "AttributeError"}, name)
+
+    def test_no_keywords_and_no_percent_sign_in_texts(self):
+        self.assertEqual([name for name, node in nodes(ast.keyword)], [])
+        for name, node in nodes(ast.Constant):
+            if isinstance(node.value, str):
+                self.assertNotIn("%", node.value, name)
+
     def test_methods_and_values(self):
         methods = set()
         for name, node in nodes(ast.ClassDef):
